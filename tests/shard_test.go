@@ -1990,10 +1990,10 @@ func TestP15ThrownShards(t *testing.T) {
 // What no words bar is done also where what comes isn't right any more.
 func TestP15WhatLeadsToNoRightShard(t *testing.T) {
 	s := busyShard()
-	got, out := checkTake(t, "a work without records", s, readying(tx(3, 1), 1, homeStamp+1))
+	_, out := checkTake(t, "a work without records", s, readying(tx(3, 1), 1, homeStamp+1))
 	wantBool(t, "Last is no number", sameMsgs(out, []impl.Msg{voting(tx(3, 1), false)}), true)
 	s.Works[newWork].Last = 1
-	got, out = checkTake(t, "a work without records", s, readying(tx(3, 1), 1, homeStamp+1))
+	got, out := checkTake(t, "a work without records", s, readying(tx(3, 1), 1, homeStamp+1))
 	wantBool(t, "no records", sameMsgs(out, []impl.Msg{voting(tx(3, 1), true)}), true)
 	wantShardOk(t, "ready without records", got, false)
 	s = busyShard()

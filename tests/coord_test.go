@@ -2388,24 +2388,8 @@ func listsOf(c impl.Coord, in impl.Msg) []any {
 
 func checkCoordMemory(t *testing.T, what string, c impl.Coord, x impl.Call, in impl.Msg) {
 	t.Helper()
-	before := allText(true, c, in)
-	first, second := coordAnswers(c, x, in), coordAnswers(c, x, in)
-	if allText(true, c, in) != before {
-		t.Errorf("%s: an argument is changed", what)
-	}
-	for name, answer := range first {
-		if allText(false, answer...) != allText(false, second[name]...) {
-			t.Errorf("%s: a second %s answers another thing", what, name)
-		}
-		if sharesMemory(slices.Concat(answer, second[name])...) {
-			t.Errorf("%s: of %s two lists share memory", what, name)
-		}
-		for _, arg := range listsOf(c, in) {
-			if sharesMemory(slices.Concat(answer, []any{arg})...) {
-				t.Errorf("%s: %s shares memory with an argument", what, name)
-			}
-		}
-	}
+	told := askTwice(t, what, func() map[string][]any { return coordAnswers(c, x, in) }, c, in)
+	wantApart(t, what, told, listsOf(c, in)...)
 }
 
 func TestP15CoordsAreNewMemory(t *testing.T) {

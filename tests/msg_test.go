@@ -920,19 +920,8 @@ func msgAnswers(m impl.Msg, b []byte) map[string][]any {
 func checkMsgMemory(t *testing.T, what string, m impl.Msg, b []byte) {
 	t.Helper()
 	m.Pairs, b = marked(m.Pairs, pair("mark", "mark")), marked(b, 'R')
-	before := allText(true, m, b)
-	first, second := msgAnswers(m, b), msgAnswers(m, b)
-	if allText(true, m, b) != before {
-		t.Errorf("%s: an argument is changed", what)
-	}
-	for name, answer := range first {
-		if allText(false, answer...) != allText(false, second[name]...) {
-			t.Errorf("%s: a second %s answers another thing", what, name)
-		}
-		if sharesMemory(slices.Concat(answer, second[name], []any{m.Pairs, b})...) {
-			t.Errorf("%s: of %s two lists share memory", what, name)
-		}
-	}
+	first := askTwice(t, what, func() map[string][]any { return msgAnswers(m, b) }, m, b)
+	wantApart(t, what, first, m, b)
 	told := allText(false, first["MsgBytes"]...) + allText(false, first["MsgRead"]...)
 	fillUp(b, 'z')
 	fillUp(m.Pairs, pair("z", "z"))

@@ -2035,20 +2035,9 @@ func netPieces(n impl.Net) []any {
 
 func checkNetMemory(t *testing.T, what string, n impl.Net, steps []impl.Step) {
 	t.Helper()
-	before := allText(true, n, steps)
-	first, second := netAnswers(n, steps), netAnswers(n, steps)
-	if allText(true, n, steps) != before {
-		t.Errorf("%s: an argument is changed", what)
-	}
+	told := askTwice(t, what, func() map[string][]any { return netAnswers(n, steps) }, n, steps)
 	wantBool(t, what+": the lists of the arguments are apart", sharesMemory(n, steps), false)
-	for name, answer := range first {
-		if allText(false, answer...) != allText(false, second[name]...) {
-			t.Errorf("%s: a second %s answers another thing", what, name)
-		}
-		if sharesMemory(slices.Concat(answer, second[name], []any{n, steps})...) {
-			t.Errorf("%s: %s shares memory with an argument, or two of its lists do", what, name)
-		}
-	}
+	wantApart(t, what, told, n, steps)
 }
 
 // memorySteps are of each kind, at several places.
@@ -2094,20 +2083,9 @@ func TestP15NetsOfOneMemoryAreApart(t *testing.T) {
 	n.Desks[1].Coord.Counts, n.Desks[0].Coord.Pend = numbers[:3], numbers[3:]
 	n.Houses[1].Shard.Store.Disk.Sheets[250] = disk.Sheets[2]
 	wantNetOk(t, "one memory", n, true)
-	before := allText(true, n)
 	steps := memorySteps(n)
-	first := netAnswers(n, steps)
-	for name, answer := range first {
-		if sharesMemory(answer...) {
-			t.Errorf("of %s of one memory two lists share some", name)
-		}
-		for _, arg := range netPieces(n) {
-			if sharesMemory(slices.Concat(answer, []any{arg})...) {
-				t.Errorf("%s shares memory with an argument of one memory", name)
-			}
-		}
-	}
-	wantBool(t, "the arguments stay as they are", allText(true, n) == before, true)
+	told := askTwice(t, "one memory", func() map[string][]any { return netAnswers(n, steps) }, n, steps)
+	wantApart(t, "one memory", told, netPieces(n)...)
 }
 
 func TestP15RefusalsChangeNoNet(t *testing.T) {

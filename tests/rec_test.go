@@ -1164,19 +1164,8 @@ func recAnswers(tree impl.Tree, p impl.Prep) map[string][]any {
 func checkRecMemory(t *testing.T, what string, tree impl.Tree, p impl.Prep) {
 	t.Helper()
 	tree, p.Recs = withRoom(tree), marked(p.Recs, wrote("mark", ""))
-	before := allText(true, tree, p)
-	first, second := recAnswers(tree, p), recAnswers(tree, p)
-	if allText(true, tree, p) != before {
-		t.Errorf("%s: an argument is changed", what)
-	}
-	for name, answer := range first {
-		if allText(false, answer...) != allText(false, second[name]...) {
-			t.Errorf("%s: a second %s answers another thing", what, name)
-		}
-		if sharesMemory(slices.Concat(answer, second[name], []any{tree.Nodes, p.Recs})...) {
-			t.Errorf("%s: of %s two lists share memory", what, name)
-		}
-	}
+	told := askTwice(t, what, func() map[string][]any { return recAnswers(tree, p) }, tree, p)
+	wantApart(t, what, told, tree, p)
 }
 
 func TestP15WhatAShardKeepsIsNewMemory(t *testing.T) {

@@ -2033,24 +2033,8 @@ func shardAnswers(s impl.Shard, in impl.Msg, edits []impl.Edit) map[string][]any
 
 func checkShardMemory(t *testing.T, what string, s impl.Shard, in impl.Msg, edits []impl.Edit) {
 	t.Helper()
-	before := allText(true, s, in, edits)
-	first, second := shardAnswers(s, in, edits), shardAnswers(s, in, edits)
-	if allText(true, s, in, edits) != before {
-		t.Errorf("%s: an argument is changed", what)
-	}
-	for name, answer := range first {
-		if allText(false, answer...) != allText(false, second[name]...) {
-			t.Errorf("%s: a second %s answers another thing", what, name)
-		}
-		if sharesMemory(slices.Concat(answer, second[name])...) {
-			t.Errorf("%s: of %s two lists share memory", what, name)
-		}
-		for _, arg := range spreadOf(s, in, edits) {
-			if sharesMemory(slices.Concat(answer, []any{arg})...) {
-				t.Errorf("%s: %s shares memory with an argument", what, name)
-			}
-		}
-	}
+	told := askTwice(t, what, func() map[string][]any { return shardAnswers(s, in, edits) }, s, in, edits)
+	wantApart(t, what, told, spreadOf(s, in, edits)...)
 }
 
 // spreadOf are the lists of arguments, each alone, as they may be one memory.

@@ -1460,21 +1460,43 @@ func answers(g given) map[string][]any {
 	return all
 }
 
-func checkAnswers(t *testing.T, what string, g given) {
+// askTwice tells what calls answer, by call. Called again they answer the same, in
+// memory of its own, and they change no argument.
+func askTwice(t *testing.T, what string, ask func() map[string][]any, args ...any) map[string][]any {
 	t.Helper()
-	before := allText(true, g)
-	first, second := answers(g), answers(g)
-	if allText(true, g) != before {
+	before := allText(true, args...)
+	first, second := ask(), ask()
+	if allText(true, args...) != before {
 		t.Errorf("%s: an argument is changed", what)
 	}
 	for name, answer := range first {
 		if allText(false, answer...) != allText(false, second[name]...) {
 			t.Errorf("%s: a second %s answers another thing", what, name)
 		}
-		if sharesMemory(slices.Concat(answer, second[name], []any{g.Store.Disk, g.Tree, g.Edits, g.Ops, g.Keep})...) || sharesMemory(slices.Concat(answer, []any{g.Store})...) {
+		if sharesMemory(slices.Concat(answer, second[name])...) {
 			t.Errorf("%s: of %s two lists share memory", what, name)
 		}
 	}
+	return first
+}
+
+// wantApart: no answer shares memory with an argument. The arguments may share
+// some with one another.
+func wantApart(t *testing.T, what string, answers map[string][]any, args ...any) {
+	t.Helper()
+	for name, answer := range answers {
+		for _, arg := range args {
+			if sharesMemory(slices.Concat(answer, []any{arg})...) {
+				t.Errorf("%s: %s shares memory with an argument", what, name)
+			}
+		}
+	}
+}
+
+func checkAnswers(t *testing.T, what string, g given) {
+	t.Helper()
+	told := askTwice(t, what, func() map[string][]any { return answers(g) }, g)
+	wantApart(t, what, told, g.Store, g.Tree, g.Edits, g.Ops, g.Keep)
 }
 
 func TestP15StoresAreNewMemory(t *testing.T) {
